@@ -1,0 +1,1 @@
+"""What persons are to one another."""
