@@ -69,11 +69,19 @@ class Family:
         self.children[parent].append(child)
         return 1
 
+    def are_partners(self, a, b):
+        """Whether a and b are partners now; nobody is their own."""
+        return pair_of(a, b) in self.pairs
+
+    def partners_of(self, a):
+        """The partners of a, by their numbers."""
+        return [other for other in range(len(self.sexes)) if self.are_partners(a, other)]
+
     def add_partners(self, a, b):
         """kn_partner."""
         if not self.has_both(a, b) or a == b:
             return -1
-        if pair_of(a, b) in self.pairs:
+        if self.are_partners(a, b):
             return 0
         if len(self.pairs) >= MOST_PAIRS:
             return -2
@@ -84,7 +92,7 @@ class Family:
         """kn_part. One person alone is no refusal here: nobody is their own partner, so it's 0."""
         if not self.has_both(a, b):
             return -1
-        if pair_of(a, b) not in self.pairs:
+        if not self.are_partners(a, b):
             return 0
         self.pairs.pop(pair_of(a, b))
         return 1

@@ -24,6 +24,20 @@ def levels_from(links, start):
     return levels
 
 
+def fewest_steps(links, start):
+    """A dict of all whom a line from start reaches, with the steps of the shortest such line; start has 0."""
+    steps = {}
+    level = [start]
+    count = 0
+    while len(level) > 0:
+        for person in level:
+            steps[person] = count
+        # Who was reached before has fewer steps already.
+        level = [person for person in one_step(links, level) if person not in steps]
+        count += 1
+    return steps
+
+
 def longest(levels):
     """How many steps the longest line has; levels is what levels_from gives."""
     return len(levels) - 1

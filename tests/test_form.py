@@ -4,6 +4,7 @@ Only what a look at the files can tell for certain is asked here.
 """
 
 import ast
+import builtins
 import pathlib
 import re
 import unittest
@@ -128,6 +129,63 @@ class Form(unittest.TestCase):
                     self.assertIn(node.id, bound | BUILTINS, name)
                 if isinstance(node, ast.Attribute):
                     self.assertNotIn(node.attr, BANNED_NAMES, name)
+
+    def test_parameters_and_locals(self):
+        for name, tree in self.each_tree():
+            taken = set(dir(builtins))
+            taken |= {alias.name for node in tree.body if isinstance(node, ast.ImportFrom) for alias in node.names}
+            taken |= {node.name for node in tree.body if isinstance(node, ast.ClassDef)}
+            for top in tree.body:
+                if isinstance(top, (ast.FunctionDef, ast.ClassDef)):
+                    for node in ast.walk(top):
+                        if isinstance(node, ast.arg):
+                            self.assertNotIn(node.arg, taken, name)
+                        if isinstance(node, ast.Name) and isinstance(node.ctx, ast.Store):
+                            self.assertNotIn(node.id, taken, name)
+
+    def test_is_stands_beside_none_true_and_false(self):
+        for name, tree in self.each_tree():
+            for node in ast.walk(tree):
+                if isinstance(node, ast.Compare) and isinstance(node.ops[0], (ast.Is, ast.IsNot)):
+                    self.assertIn(ast.unparse(node.comparators[0]), ("None", "True", "False"), name)
+
+    def test_methods_and_values_have_names_of_their_own(self):
+        methods, values = set(), set()
+        for name, tree in self.each_tree():
+            for top in tree.body:
+                if isinstance(top, ast.ClassDef):
+                    methods |= {node.name for node in top.body if isinstance(node, ast.FunctionDef)}
+            values |= {node.attr for node in ast.walk(tree)
+                       if isinstance(node, ast.Attribute) and isinstance(node.ctx, ast.Store)}
+        self.assertEqual(methods & values, set())
+        taken = {word for kind in (str, int, list, dict, set, bytes, tuple) for word in dir(kind)}
+        self.assertEqual((methods | values) & taken - set(SPECIAL_METHODS), set())
+
+    def test_texts(self):
+        for name, tree in self.each_tree():
+            for node in ast.walk(tree):
+                if isinstance(node, ast.Constant) and isinstance(node.value, str):
+                    self.assertNotIn(chr(37), node.value, name)
+
+    def test_no_two_files_draw_from_one_another(self):
+        draws = {}
+        for name, tree in self.each_tree():
+            drawn = {node.module.split(".")[1] for node in tree.body if isinstance(node, ast.ImportFrom)}
+            draws[name[:-3]] = drawn
+        while draws:
+            free = [name for name, drawn in draws.items() if not drawn & set(draws)]
+            self.assertNotEqual(free, [])
+            draws = {name: drawn for name, drawn in draws.items() if name not in free}
+
+    def test_names_are_drawn_from_the_file_that_defines_them(self):
+        trees = dict(self.each_tree())
+        for name, tree in trees.items():
+            for node in tree.body:
+                if isinstance(node, ast.ImportFrom):
+                    source = trees[node.module.split(".")[1] + ".py"].body
+                    defined = {top.name for top in source if isinstance(top, (ast.FunctionDef, ast.ClassDef))}
+                    defined |= {top.targets[0].id for top in source if isinstance(top, ast.Assign)}
+                    self.assertLessEqual({alias.name for alias in node.names}, defined, name)
 
     def test_methods(self):
         own = set()

@@ -1,10 +1,8 @@
 """Promise 3: kn_parent."""
 
-import subprocess
-import sys
 import unittest
 
-from helper import CLEAR, WRONG_PERSONS, ask, chain, flat, last, parent, person, persons
+from helper import WRONG_PERSONS, ask, ask_apart, chain, diamonds, last, parent, person, persons
 
 
 class Told(unittest.TestCase):
@@ -146,18 +144,11 @@ class NothingChanges(unittest.TestCase):
 
 class ManyLines(unittest.TestCase):
     def test_two_to_the_28_lines_are_answered_soon(self):
-        calls = [CLEAR] + persons(60)
-        for low in range(0, 56, 2):
-            for child in (low, low + 1):
-                calls += [parent(child, low + 2), parent(child, low + 3)]
-        steps = len(calls) - 61
+        calls = diamonds(28) + persons(2)
+        steps = len(calls) - 60
         calls += [parent(56, 0), parent(57, 1), parent(56, 58), parent(58, 0), parent(58, 2), parent(59, 58)]
-        # In a process of its own, as one that walks each line would not end.
-        asked = f"from kinwordsdesk.persons import answers; print(answers({flat(calls)}))"
-        done = subprocess.run([sys.executable, "-c", asked], capture_output=True, text=True, timeout=60, check=True)
-        expected = [0] + list(range(60)) + [1] * steps + [-3, -3, -4, -4, 1, -4]
-        told = [int(number) for number in done.stdout.strip("[]\n").split(", ")]
-        self.assertEqual(told, flat([(1, number) for number in expected]))
+        told = [row[0] for row in ask_apart(calls)]
+        self.assertEqual(told, list(range(58)) + [1] * steps + [58, 59] + [-3, -3, -4, -4, 1, -4])
 
 
 if __name__ == "__main__":
